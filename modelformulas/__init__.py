@@ -1,0 +1,1 @@
+"""Formulas for models of experiments."""
