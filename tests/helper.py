@@ -69,6 +69,68 @@ def compare(first, second):
     return [13] + row(first) + row(second)
 
 
+def coding(factor):
+    return [14, factor]
+
+
+def add_run(levels):
+    return [15] + row(levels)
+
+
+def remove_run(index):
+    return [16, index]
+
+
+def full_factorial():
+    return [17]
+
+
+def clear_runs():
+    return [18]
+
+
+def get_run(index):
+    return [19, index]
+
+
+def row_of(levels):
+    return [20] + row(levels)
+
+
+def matrix():
+    return [21]
+
+
+def rank():
+    return [22]
+
+
+def aliased():
+    return [23]
+
+
+def information():
+    return [24]
+
+
+def determinant():
+    return [25]
+
+
+def is_estimable(vector):
+    return [26] + row(vector)
+
+
+def summary():
+    return [27]
+
+
+def coded_factors(level_counts, codings):
+    """Calls that create an object with factors called a, b and so on."""
+    return [create()] + [add_factor(levels, number, name)
+                         for levels, number, name in zip(level_counts, codings, "abcdef")]
+
+
 def factors(names, levels=2):
     """Calls that create an object with a factor for each letter."""
     return [create()] + [add_factor(levels, 0, name) for name in names]

@@ -1,10 +1,13 @@
 """A second reading of the document, by other means, to compare answers with.
 
-It reads by recursive descent and keeps models as sets of sets of factor names.
+It reads by recursive descent, keeps models as sets of sets of factor names, and
+computes with fractions.
 """
 
 import re
-from itertools import combinations
+from fractions import Fraction
+from itertools import combinations, product
+from math import prod
 
 TOKEN = re.compile(r"[a-z][a-z0-9_]*|[0-9]+|[-+*/:^()]")
 
@@ -184,3 +187,75 @@ def canonical(tree):
     left, right = PARENTHESES[tree[0]]
     sign = tree[0] if tree[0] in ":^" else " " + tree[0] + " "
     return operand_text(tree[1], left) + sign + operand_text(tree[2], right)
+
+
+# By coding and number of levels: for each level, the entries of the columns.
+CODINGS = {
+    (0, 2): [[0], [1]],
+    (0, 3): [[0, 0], [1, 0], [0, 1]],
+    (0, 4): [[0, 0, 0], [1, 0, 0], [0, 1, 0], [0, 0, 1]],
+    (0, 5): [[0, 0, 0, 0], [1, 0, 0, 0], [0, 1, 0, 0], [0, 0, 1, 0], [0, 0, 0, 1]],
+    (1, 2): [[1], [-1]],
+    (1, 3): [[1, 0], [0, 1], [-1, -1]],
+    (1, 4): [[1, 0, 0], [0, 1, 0], [0, 0, 1], [-1, -1, -1]],
+    (1, 5): [[1, 0, 0, 0], [0, 1, 0, 0], [0, 0, 1, 0], [0, 0, 0, 1], [-1, -1, -1, -1]],
+    (2, 2): [[-1], [1]],
+    (2, 3): [[-1, -1], [1, -1], [0, 2]],
+    (2, 4): [[-1, -1, -1], [1, -1, -1], [0, 2, -1], [0, 0, 3]],
+    (2, 5): [[-1, -1, -1, -1], [1, -1, -1, -1], [0, 2, -1, -1], [0, 0, 3, -1], [0, 0, 0, 4]],
+    (3, 2): [[-1], [1]],
+    (3, 3): [[-1, 1], [0, -2], [1, 1]],
+    (3, 4): [[-3, 1, -1], [-1, -1, 3], [1, -1, -3], [3, 1, 1]],
+    (3, 5): [[-2, 2, -1, 1], [-1, -1, 2, -4], [0, -2, 0, 6], [1, -1, -2, -4], [2, 2, 1, 1]],
+}
+
+
+def design_row(terms, level_counts, codings, levels):
+    """The row of a run; the terms are lists of factor numbers."""
+    row = []
+    for term in terms:
+        parts = [CODINGS[codings[factor], level_counts[factor]][levels[factor]] for factor in term]
+        row += [prod(chosen) for chosen in product(*parts)]
+    return row
+
+
+def eliminated(matrix):
+    """The rank, and the product of the pivots with the sign of the order of the rows."""
+    left = [[Fraction(entry) for entry in row] for row in matrix]
+    rank = 0
+    value = Fraction(1)
+    for column in range(len(matrix[0]) if matrix else 0):
+        places = [place for place in range(rank, len(left)) if left[place][column]]
+        if not places:
+            continue
+        if places[0] != rank:
+            left[rank], left[places[0]] = left[places[0]], left[rank]
+            value = -value
+        value *= left[rank][column]
+        for place in range(rank + 1, len(left)):
+            part = left[place][column] / left[rank][column]
+            left[place] = [entry - part * other for entry, other in zip(left[place], left[rank])]
+        rank += 1
+    return rank, value
+
+
+def matrix_rank(matrix):
+    return eliminated(matrix)[0]
+
+
+def determinant(square):
+    rank, value = eliminated(square)
+    return int(value) if rank == len(square) else 0
+
+
+def aliased(matrix, width):
+    ranks = [matrix_rank([row[:end] for row in matrix]) for end in range(width + 1)]
+    return [int(ranks[column] == ranks[column + 1]) for column in range(width)]
+
+
+def information(matrix, width):
+    return [[sum(row[one] * row[two] for row in matrix) for two in range(width)] for one in range(width)]
+
+
+def estimable(matrix, vector):
+    return int(matrix_rank(matrix + [vector]) == matrix_rank(matrix))

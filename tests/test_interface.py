@@ -9,7 +9,9 @@ from tests import helper as h
 EVERY_CALL = [
     h.add_factor(2, 0, "a"), h.set_coding(0, 1), h.check("a"), h.set_model("a"), h.terms(),
     h.term_text(0), h.format_text("a"), h.model_text(), h.degrees(0), h.total_degrees(),
-    h.is_closed(), h.close(), h.compare("a", "a"),
+    h.is_closed(), h.close(), h.compare("a", "a"), h.coding(0), h.add_run([0]), h.remove_run(0),
+    h.full_factorial(), h.clear_runs(), h.get_run(0), h.row_of([1]), h.full_factorial(), h.matrix(), h.rank(),
+    h.aliased(), h.information(), h.determinant(), h.is_estimable([1, 0]), h.summary(),
 ]
 
 SESSION = [
@@ -27,7 +29,21 @@ SESSION = [
     (h.check("a^7"), [4, 2]),
     (h.degrees(2), [2]),
     (h.total_degrees(), [4]),
+    (h.coding(0), [2, 1, 1, -1]),
+    (h.coding(1), [3, 2, 0, 0, 1, 0, 0, 1]),
+    (h.full_factorial(), [6]),
+    (h.rank(), [4]),
+    (h.row_of([1, 2]), [4, 1, -1, 0, 1]),
+    (h.information(), [4, 6, 0, 2, 2, 0, 6, 0, 0, 2, 0, 2, 0, 2, 0, 0, 2]),
+    (h.determinant(), [48]),
+    (h.remove_run(5), [5]),
+    (h.aliased(), [4, 0, 0, 0, 0]),
+    (h.is_estimable([0, 0, 1, -1]), [1]),
     (h.compare("a*b", "a + b"), [2]),
+    (h.clear_runs(), [5]),
+    (h.add_run([0, 0]), [1]),
+    (h.rank(), [1]),
+    (h.aliased(), [4, 0, 1, 1, 1]),
     (h.is_closed(), [1]),
     (h.set_model("a:b - 1"), [1]),
     (h.is_closed(), [0]),
@@ -41,6 +57,14 @@ class Lists(unittest.TestCase):
                  13, 1, 97, 3, 97, 42, 98, 2, 5, 0, 9, 3, 8]
         told = [1, 0, 1, 0, 1, 1, 1, 4, 5, 4, 0, 1, 2, 3, 2, 3, 0, 1, 0,
                 1, 1, 1, -2, 1, 2, 16, 15, 49, 32, 43, 32, 97, 32, 43, 32, 98, 32, 43, 32, 97, 58, 98]
+        self.assertEqual(answers(calls), told)
+
+    def test_numbers_of_runs_as_they_stand(self):
+        calls = [0, 1, 3, 2, 1, 97, 4, 1, 97, 14, 0, 15, 1, 2, 15, 1, 0, 15, 1, 3, 19, 0, 16, 1, 20, 1, 1, 21, 22, 23, 24,
+                 25, 26, 3, -2, 0, -4, 26, 0, 18, 17, 27]
+        told = [1, 0, 1, 0, 1, 2, 8, 3, 2, -1, -1, 1, -1, 0, 2, 1, 1, 1, 2, 1, -22, 2, 1, 2, 1, 1, 4, 3, 1, 1, -1,
+                5, 1, 3, 1, 0, 2, 1, 1, 4, 3, 0, 1, 1, 10, 3, 1, 0, 2, 0, 0, 0, 2, 0, 4, 1, 0, 1, 1, 1, -22,
+                1, 1, 1, 3, 4, 1, 2, 3, 3]
         self.assertEqual(answers(calls), told)
 
     def test_session_of_the_document(self):
@@ -94,17 +118,27 @@ class Create(unittest.TestCase):
 
     def test_minus_11_comes_before_other_errors(self):
         wrong = [h.add_factor(9, 9, ""), h.set_coding(9, 9), h.set_model("+"), h.term_text(99),
-                 h.format_text("$"), h.degrees(99), h.compare("", ""), h.check("a +")]
+                 h.format_text("$"), h.degrees(99), h.compare("", ""), h.check("a +"), h.coding(99), h.add_run([9, 9]),
+                 h.remove_run(99), h.get_run(99), h.row_of([9, 9]), h.is_estimable([9, -9, 9])]
         self.assertEqual(h.run(wrong), [[-11]] * len(wrong))
 
     def test_a_refused_call_before_create_does_nothing(self):
-        told = h.run(EVERY_CALL + [h.create(), h.check("a"), h.terms()])
-        self.assertEqual(told[len(EVERY_CALL):], [[0], [3, 0], [1, 0]])
+        told = h.run(EVERY_CALL + [h.create(), h.check("a"), h.terms(), h.summary()])
+        self.assertEqual(told[len(EVERY_CALL):], [[0], [3, 0], [1, 0], [0, 1, 1, 0]])
 
     def test_a_new_object_has_the_intercept(self):
         told = h.run([h.create(), h.terms(), h.model_text(), h.total_degrees(), h.is_closed(),
                       h.close(), h.term_text(0), h.degrees(0)])
         self.assertEqual(told, [[0], [1, 0], [1, 49], [1], [1], [1], [1, 49], [1]])
+
+    def test_a_new_object_has_no_runs(self):
+        told = h.run([h.create(), h.summary(), h.get_run(0), h.remove_run(0), h.matrix(), h.clear_runs()])
+        self.assertEqual(told, [[0], [0, 1, 1, 0], [-2], [-2], [0, 1], [0]])
+
+    def test_a_second_create_takes_the_runs_away(self):
+        told = h.run(h.factors("ab") + [h.full_factorial(), h.create(), h.summary(), h.get_run(0), h.coding(0),
+                                        h.add_factor(3, 1, "b"), h.summary(), h.matrix(), h.clear_runs()])
+        self.assertEqual(told[3:], [[4], [0], [0, 1, 1, 0], [-2], [-2], [0], [1, 1, 1, 0], [0, 1], [0]])
 
     def test_a_second_create_starts_anew(self):
         told = h.run(h.factors("ab") + [h.set_model("a*b - 1"), h.create(), h.terms(), h.check("a"),

@@ -1,4 +1,4 @@
-"""Points 1 to 3 of the requirements, and a second reading of the document beside the program."""
+"""Points 1 to 6 of the requirements, and a second reading of the document beside the program."""
 
 import unittest
 from itertools import product
@@ -108,6 +108,77 @@ class Closure(unittest.TestCase):
             expected = reference.numbered(reference.subsets(reference.terms_as_model(reference.read(text, names))), names)
             told = h.run(h.factors(names) + [h.set_model(text), h.close(), h.terms(), h.is_closed()])[8:]
             self.assertEqual(told, [[len(expected)], [len(expected)] + expected, [1]], text)
+
+
+def recoded(codings):
+    """Calls that give the factors these codings."""
+    return [h.set_coding(factor, number) for factor, number in enumerate(codings)]
+
+
+def some_runs(level_counts):
+    """Lists of runs, from none to all of them and some twice."""
+    every = [list(run) for run in product(*[range(levels) for levels in level_counts])]
+    return [[], every[1:2], every[::2], every[1::3], every[:24], every[-5:] + every[:5] * 2, every[3:] + every[-1:]]
+
+
+class AllCombinations(unittest.TestCase):
+    CLOSED = ["1-1", "1", "a", "c", "a + b + c", "a*b", "b*c + a", "(a+b+c)^2", "a*b*c"]
+
+    def test_no_column_of_a_closed_model_is_aliased(self):
+        for level_counts in ([2, 2, 2], [3, 2, 2], [2, 4, 3], [2, 2, 5], [4, 2, 2]):
+            for text in self.CLOSED:
+                start = h.coded_factors(level_counts, [0, 0, 0]) + [h.set_model(text), h.is_closed(), h.full_factorial()]
+                for codings in product(range(4), repeat=3):
+                    told = h.run(start + recoded(codings) + [h.total_degrees(), h.aliased(), h.rank()])
+                    self.assertEqual(told[5], [1], text)
+                    columns = told[-3][0]
+                    self.assertEqual(told[-2:], [[columns] + [0] * columns, [columns]], (level_counts, text, codings))
+
+    def test_two_factors_with_many_levels(self):
+        for level_counts in ([4, 5], [5, 4], [4, 4], [3, 5]):
+            for codings in product(range(4), repeat=2):
+                told = h.run(h.coded_factors(level_counts, codings) + [h.set_model("a*b"), h.full_factorial(), h.aliased()])
+                columns = level_counts[0] * level_counts[1]
+                self.assertEqual(told[-1], [columns] + [0] * columns, (level_counts, codings))
+
+
+class RankAndCodings(unittest.TestCase):
+    def ranks(self, level_counts, text, runs):
+        """The rank of one design in every coding of its factors, and whether its model is closed."""
+        start = h.coded_factors(level_counts, [0] * len(level_counts)) + [h.set_model(text), h.is_closed()]
+        start += [h.add_run(run) for run in runs]
+        closed = h.run(start)[2 + len(level_counts)]
+        codings = list(product(range(4), repeat=len(level_counts)))
+        calls = [recoded(numbers) + [h.rank()] for numbers in codings]
+        return {h.run(start + call)[-1][0] for call in calls}, closed == [1]
+
+    def test_a_closed_model_has_one_rank(self):
+        for level_counts, text in [([2, 3], "a*b"), ([3, 3], "a + b"), ([4, 5], "a*b"), ([2, 2, 3], "(a+b+c)^2"),
+                                   ([5, 2], "a"), ([3, 2, 4], "a*c + b")]:
+            for runs in some_runs(level_counts):
+                found, closed = self.ranks(level_counts, text, runs[:24])
+                self.assertTrue(closed, text)
+                self.assertEqual(len(found), 1, (level_counts, text, runs))
+
+    def test_another_model_may_have_several(self):
+        found, closed = self.ranks([2, 3], "a:b - 1", [[0, 1], [0, 2], [1, 1]])
+        self.assertFalse(closed)
+        self.assertEqual(found, {1, 2})
+
+
+class SignOfTheDeterminant(unittest.TestCase):
+    def test_positive_exactly_if_no_column_is_aliased(self):
+        seen = set()
+        for level_counts in ([2, 3, 2], [3, 2, 4], [5, 4, 2]):
+            for text in ("1", "a-1", "a+b", "a+b-1", "a*b", "a:b-1", "c:b", "b/c-1", "(a+b+c)^2", "a+b:c-1", "1-1"):
+                for place, runs in enumerate(some_runs(level_counts)):
+                    start = h.coded_factors(level_counts, [place % 4, (place + 1) % 4, 2]) + [h.set_model(text)]
+                    told = h.run(start + [h.add_run(run) for run in runs[:24]] + [h.aliased(), h.determinant()])
+                    flags, value = told[-2][1:], told[-1][0]
+                    self.assertGreaterEqual(value, 0)
+                    self.assertEqual(value > 0, 1 not in flags, (level_counts, text, runs))
+                    seen.add(value > 0)
+        self.assertEqual(seen, {False, True})
 
 
 if __name__ == "__main__":
